@@ -1,0 +1,45 @@
+"""What the calls are about: one run, where one is in it, its stops and watches."""
+
+from backwardrun.moments import moments_of_run
+
+NO_REASON = 0
+AT_A_STOP = 1
+BEHIND_A_WATCHED_WRITE = 2
+
+
+# One run with all of its moments, so that going back is as plain as going on.
+class Session:
+    def __init__(self):
+        self.start_over([])
+
+    def start_over(self, loaded):
+        self.loaded = loaded
+        self.frame_pads = []
+        self.stop_places = {}
+        self.watch_places = {}
+        self.now = 0
+        self.find_moments()
+
+    def find_moments(self):
+        self.moments = moments_of_run(self.loaded, self.frame_pads)
+
+    def add_pads(self, more):
+        self.frame_pads = self.frame_pads + more
+        self.find_moments()
+
+    # The number of the run's end, which is how many instructions the run has.
+    def end_number(self):
+        return len(self.moments) - 1
+
+    def where_now(self):
+        moment = self.moments[self.now]
+        return [self.now, moment.frame, moment.done, moment.place]
+
+    def reason_at(self, number):
+        moment = self.moments[number]
+        # At the end no instruction stands at the machine's place.
+        if number < self.end_number() and moment.place in self.stop_places:
+            return AT_A_STOP
+        if moment.written in self.watch_places:
+            return BEHIND_A_WATCHED_WRITE
+        return NO_REASON
