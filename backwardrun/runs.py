@@ -3,9 +3,9 @@
 from backwardrun.calls import answer_call
 from backwardrun.session import Session
 
-# By the calls' numbers: begin and pads; then step, back, stop, watch, go.
+# By the calls' numbers: begin and pads have a row each, the others so many numbers.
 ROW_CALLS = (0, 1)
-HOW_MANY_NUMBERS = {2: 1, 3: 1, 4: 2, 5: 2, 6: 0}
+HOW_MANY_NUMBERS = {2: 1, 3: 1, 4: 2, 5: 2, 6: 0, 7: 0, 8: 1, 9: 0, 10: 0, 11: 1, 12: 2, 13: 0}
 
 
 # Where the numbers of the call at `at` begin: a row has its count before it.

@@ -34,18 +34,38 @@ def instruction(state):
     return which
 
 
-def whole_run(row, pads):
-    """Ahead of each instruction, then at the end: the frame, how many it has done, the place, what was written."""
-    state = loaded(row)
-    spots = []
-    for frame, pad in enumerate(pads):
-        state["bytes"][127] = pad
+def as_numbers(state):
+    # The bytes' dict was filled from place 0 on and keeps that order.
+    return [state[name] for name in ("a", "x", "place", "z", "c")] + list(state["bytes"].values())
+
+
+class Run:
+    """Done from the beginning: its spots, ahead of each instruction and at the end, and its instructions' writes."""
+
+    def __init__(self, row, pads, hands):
+        self.state, self.hands = loaded(row), hands
+        self.spots, self.writes = [], []
+        for frame, pad in enumerate(pads):
+            self.state["bytes"][127] = pad
+            self.frame(frame)
+        self.spot(len(pads), 0)
+
+    def spot(self, frame, done):
+        for number, place, byte in self.hands:
+            if number == len(self.spots):
+                self.state["bytes"][place] = byte
+        self.spots.append((frame, done, self.state["place"], self.state["wrote"], as_numbers(self.state)))
+
+    def frame(self, frame):
         done, rested = 0, False
         while done < 300 and not rested:
-            spots.append((frame, done, state["place"], state["wrote"]))
-            rested = instruction(state) == 0
+            self.spot(frame, done)
+            number, place, before = len(self.spots) - 1, self.state["place"], as_numbers(self.state)[5:]
+            rested = instruction(self.state) == 0
+            wrote = self.state["wrote"]
+            if wrote is not None:
+                self.writes.append((wrote, [number, frame, place, before[wrote], self.state["bytes"][wrote]]))
             done += 1
-    return spots + [(len(pads), 0, state["place"], state["wrote"])]
 
 
 class Model:
@@ -55,9 +75,14 @@ class Model:
     def begin(self, row):
         if len(row) > 128 or [byte for byte in row if byte not in range(256)]:
             return [-1]
-        self.row, self.frames, self.places, self.now = row, [], ([], []), 0
-        self.spots = whole_run(row, [])
+        self.row, self.frames, self.hands, self.places, self.now = row, [], [], ([], []), 0
+        self.run_again()
         return [0]
+
+    def run_again(self):
+        self.run = Run(self.row, self.frames, self.hands)
+        self.spots = self.run.spots
+        return len(self.spots) - 1
 
     def pads(self, row):
         if [byte for byte in row if byte not in range(256)]:
@@ -65,8 +90,7 @@ class Model:
         if len(self.frames + row) > 20:
             return [-5]
         self.frames = self.frames + row
-        self.spots = whole_run(self.row, self.frames)
-        return [len(self.frames), len(self.spots) - 1]
+        return [len(self.frames), self.run_again()]
 
     def there(self, number):
         return number in range(len(self.spots))
@@ -94,17 +118,45 @@ class Model:
         return [len(places)]
 
     def reason(self):
-        frame, done, place, wrote = self.spots[self.now]
+        frame, done, place, wrote, numbers = self.spots[self.now]
         if frame < len(self.frames) and place in self.places[0]:
             return 1
         return 2 if wrote in self.places[1] else 0
 
-    def go(self):
-        while self.there(self.now + 1):
-            self.now += 1
+    def until_a_stop(self, by):
+        while self.there(self.now + by):
+            self.now += by
             if self.reason():
                 break
         return [self.reason()] + self.where()
+
+    def to(self, n):
+        if not self.there(n):
+            return [-3]
+        self.now = n
+        return self.where()
+
+    def wrote(self, place):
+        if place not in range(128):
+            return [-1]
+        ahead = [told for where, told in self.run.writes if where == place and told[0] < self.now]
+        return [1] + ahead[-1] if ahead else [0]
+
+    def poke(self, place, byte):
+        if place not in range(128) or byte not in range(256):
+            return [-1]
+        if len(self.hands) == 20:
+            return [-5]
+        self.hands = self.hands + [(self.now, place, byte)]
+        return [len(self.hands), self.run_again()]
+
+    def unpoke(self):
+        if not self.hands:
+            return [-7]
+        number = self.hands[-1][0]
+        self.hands = self.hands[:-1]
+        self.now = min(number, self.run_again())
+        return self.where()
 
     def answer(self, call):
         number = call[0]
@@ -114,4 +166,10 @@ class Model:
             return self.move(call[1], 1 if number == 2 else -1)
         if number in (4, 5):
             return self.tell(number - 4, call[1], call[2])
-        return self.go()
+        if number in (6, 7):
+            return self.until_a_stop(1 if number == 6 else -1)
+        if number == 9:
+            return self.where() + [len(self.spots) - 1]
+        if number == 10:
+            return self.spots[self.now][4]
+        return {8: self.to, 11: self.wrote, 12: self.poke, 13: self.unpoke}[number](*call[1:])

@@ -2,8 +2,8 @@
 
 import unittest
 
-from tests.calling import GO, A_IS_N, JUMP, JUMP_C, JUMP_NOT_Z, JUMP_Z, PUT_A, PUT_A_X
-from tests.calling import ask, back, begin, last, pads, program, step, stop, watch
+from tests.calling import GO, REWIND, STATE, UNPOKE, WHERE, A_IS_N, JUMP, JUMP_C, JUMP_NOT_Z, JUMP_Z, PUT_A, PUT_A_X
+from tests.calling import ask, back, begin, bytes_at, last, pads, poke, program, step, stop, to, watch, wrote
 
 
 class Loaded(unittest.TestCase):
@@ -76,6 +76,37 @@ class Again(unittest.TestCase):
         cells = [A_IS_N, JUMP, PUT_A, 4, 0, 80]
         asked = [pads(1), step(1000)]
         self.assertEqual(ask(begin(*cells), *asked)[1:], ask(begin(*cells), *asked, begin(*cells), *asked)[4:])
+
+    # Each of the calls, about a run that is gone when begin comes again.
+    ALL = [
+        begin(A_IS_N, 7, PUT_A, 20, JUMP, 0), pads(1, 2), stop(2), watch(20), GO, GO, step(9), back(2), to(305), REWIND,
+        WHERE, STATE, wrote(20), poke(1, 9), poke(0, 12), UNPOKE, to(400), poke(60, 3), poke(127, 3)]
+
+    def test_behind_all_calls(self):
+        answered = ask(*self.ALL, begin(A_IS_N, 9), WHERE, STATE, wrote(20), GO, REWIND, UNPOKE, pads())[len(self.ALL):]
+        self.assertEqual(answered, [
+            [0], [0, 0, 0, 0, 0], [0, 0, 0, 1, 0, A_IS_N, 9] + [0] * 126, [0], [0, 0, 0, 0, 0], [0, 0, 0, 0, 0], [-7],
+            [0, 0]])
+
+    def test_nothing_is_changed_by_hand_any_more(self):
+        asked = [pads(5), poke(90, 1), *[call for n in range(3) for call in (to(n), STATE)], UNPOKE, UNPOKE]
+        self.assertEqual(ask(*self.ALL, begin(A_IS_N, 9), *asked)[len(self.ALL):], ask(begin(A_IS_N, 9), *asked))
+        # Where the changes stood in the run before, nothing changes in the new one.
+        again = [*self.ALL, begin(JUMP, 0), pads(4, 5)]
+        self.assertEqual(bytes_at(again, 60, (305, 400, 600)), [0, 0, 0])
+        self.assertEqual(bytes_at(again, 127, (299, 400, 600)), [4, 5, 5])
+
+    def test_no_stops_and_watches_any_more(self):
+        told = [*self.ALL, begin(A_IS_N, 7, PUT_A, 20, JUMP, 0), pads(1, 2)]
+        self.assertEqual(ask(*told, GO, REWIND, stop(9), watch(9))[len(told):], [
+            [0, 600, 2, 0, 0], [0, 0, 0, 0, 0], [1], [1]])
+
+    def test_refused_all_stays(self):
+        asked = [WHERE, STATE, wrote(20), REWIND, GO, stop(2), watch(20), UNPOKE, STATE, UNPOKE, UNPOKE, STATE, UNPOKE]
+        plain = ask(*self.ALL, *asked)
+        many = len(self.ALL)
+        self.assertEqual(plain[-1], [-7])
+        self.assertEqual(ask(*self.ALL, begin(256), *asked), plain[:many] + [[-1]] + plain[many:])
 
 
 if __name__ == "__main__":

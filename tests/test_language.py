@@ -43,6 +43,9 @@ type typing typing_extensions enum Enum IntEnum StrEnum Flag IntFlag Generic Pro
 namedtuple NamedTuple TypedDict TYPE_CHECKING abstractmethod
 """.split()
 
+WALKED = ["zip", "enumerate", "reversed", "range", "items", "keys", "values"]
+WALKERS = ["list", "tuple", "dict", "sorted", "sum", "any", "all", "enumerate", "zip", "min", "max"]
+
 NEVER_FILES = ["test", "tests", "testing", "site", "conftest", "sitecustomize", "usercustomize"]
 
 
@@ -153,6 +156,25 @@ class Language(unittest.TestCase):
         self.assertEqual((methods | values) & (of_python - {"__init__"}), set())
         for where, node in self.nodes(ast.Attribute):
             self.assertIn(node.attr, methods | values | set(METHODS), where)
+
+    def test_walked_at_once(self):
+        walked = set()
+        for where, node in self.nodes(ast.For, ast.comprehension):
+            walked.add(node.iter)
+        for where, node in self.nodes(ast.Call):
+            if isinstance(node.func, ast.Name) and node.func.id in WALKERS:
+                walked.update(node.args)
+        for where, node in self.nodes(ast.Call):
+            if getattr(node.func, "id", getattr(node.func, "attr", "")) in WALKED:
+                self.assertIn(node, walked, where)
+
+    def test_no_files_draw_from_one_another(self):
+        drawn = {name: [node.module.removeprefix("backwardrun.") + ".py" for node in ast.walk(tree)
+                        if isinstance(node, ast.ImportFrom)] for name, tree in self.trees.items()}
+        while drawn:
+            free = [name for name, others in drawn.items() if not [other for other in others if other in drawn]]
+            self.assertNotEqual(free, [], drawn)
+            drawn = {name: others for name, others in drawn.items() if name not in free}
 
     def test_plain_values(self):
         for where, node in self.nodes(ast.Constant):
